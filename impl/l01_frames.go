@@ -375,10 +375,15 @@ func CutBox(f Frame, b Box) (Frame, int64) {
 	if !ValidFrame(f) {
 		return Frame{}, ErrInvalid
 	}
-	if !isSpan(b.X, b.Wide) || !isSpan(b.Y, b.High) {
+	if !b.inFrame() {
 		return Frame{}, ErrRange
 	}
 	return f.meet(b.filled()), OK
+}
+
+// inFrame reports whether a box has places, all of which lie within the frame.
+func (b Box) inFrame() bool {
+	return isSpan(b.X, b.Wide) && isSpan(b.Y, b.High)
 }
 
 // isSpan asks for the room that is left behind from, as from + size might be too great for an int8.
